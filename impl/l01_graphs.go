@@ -48,6 +48,19 @@ func isPair(g Graph, u int64, v int64) bool {
 	return isNode(g, u) && isNode(g, v) && u != v
 }
 
+// hasNodes tells whether g is right and all of these are nodes of it.
+func hasNodes(g Graph, nodes ...int64) bool {
+	if !GraphOk(g) {
+		return false
+	}
+	for _, v := range nodes {
+		if !isNode(g, v) {
+			return false
+		}
+	}
+	return true
+}
+
 func arcOk(g Graph, a Arc) bool {
 	return isPair(g, a.From, a.To) && 1 <= a.W && a.W <= MaxW
 }
@@ -172,22 +185,28 @@ func Reversed(g Graph) Graph {
 }
 
 func Outs(g Graph, v int64) []Arc {
-	if !GraphOk(g) {
+	if !hasNodes(g, v) {
 		return nil
 	}
-	var outs []Arc
-	for _, a := range g.Arcs {
-		if a.From == v {
-			outs = append(outs, a)
-		}
-	}
-	return outs
+	return append([]Arc(nil), arcsFrom(g, v)...)
+}
+
+// arcsFrom is a part of the list of g itself: those from one node are side by side.
+func arcsFrom(g Graph, v int64) []Arc {
+	first, _ := placeOf(g, v, 0)
+	behind, _ := placeOf(g, v+1, 0)
+	return g.Arcs[first:behind]
 }
 
 func WeightOf(g Graph, u int64, v int64) int64 {
 	if !GraphOk(g) {
 		return 0
 	}
+	return arcWeight(g, u, v)
+}
+
+// arcWeight asks for a right graph; it is 0 when there is no such arc.
+func arcWeight(g Graph, u int64, v int64) int64 {
 	place, found := placeOf(g, u, v)
 	if !found {
 		return 0

@@ -43,6 +43,29 @@ func spoil[T any](l []T, x T) {
 	}
 }
 
+// holdTwice spoils the answers and asks again: nothing that is spoilt may show in what comes then.
+func holdTwice(t *testing.T, answers func() [][]int64) {
+	t.Helper()
+	first := answers()
+	var was [][]int64
+	for _, l := range first {
+		was = append(was, slices.Clone(l))
+	}
+	for i, l := range first {
+		spoil(l, -99)
+		for j := i + 1; j < len(first); j++ {
+			if !slices.Equal(first[j], was[j]) {
+				t.Errorf("answers %d and %d share memory", i, j)
+			}
+		}
+	}
+	for i, l := range answers() {
+		if !slices.Equal(l, was[i]) {
+			t.Errorf("answer %d was %v and is %v", i, was[i], l)
+		}
+	}
+}
+
 func sameGraph(a impl.Graph, b impl.Graph) bool {
 	return a.N == b.N && slices.Equal(a.Arcs, b.Arcs)
 }
