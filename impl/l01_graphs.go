@@ -61,6 +61,21 @@ func hasNodes(g Graph, nodes ...int64) bool {
 	return true
 }
 
+// hasUnlike tells whether g is right, all of these are nodes of it and no two are alike.
+func hasUnlike(g Graph, nodes []int64) bool {
+	if !hasNodes(g, nodes...) {
+		return false
+	}
+	var seen [MaxNodes]bool
+	for _, v := range nodes {
+		if seen[v] {
+			return false
+		}
+		seen[v] = true
+	}
+	return true
+}
+
 func arcOk(g Graph, a Arc) bool {
 	return isPair(g, a.From, a.To) && 1 <= a.W && a.W <= MaxW
 }
