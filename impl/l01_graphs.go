@@ -191,12 +191,17 @@ func Reversed(g Graph) Graph {
 	if !GraphOk(g) {
 		return Graph{}
 	}
-	turned := Graph{N: g.N}
+	return turned(g)
+}
+
+// turned asks no more of g than that its arcs are of its nodes.
+func turned(g Graph) Graph {
+	back := Graph{N: g.N}
 	for _, a := range g.Arcs {
-		turned.Arcs = append(turned.Arcs, Arc{From: a.To, To: a.From, W: a.W})
+		back.Arcs = append(back.Arcs, Arc{From: a.To, To: a.From, W: a.W})
 	}
-	slices.SortFunc(turned.Arcs, compareEnds)
-	return turned
+	slices.SortFunc(back.Arcs, compareEnds)
+	return back
 }
 
 func Outs(g Graph, v int64) []Arc {

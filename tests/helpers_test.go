@@ -122,6 +122,10 @@ type namedGraph struct {
 	g    impl.Graph
 }
 
+func arc(from int64, to int64, w int64) impl.Arc {
+	return impl.Arc{From: from, To: to, W: w}
+}
+
 func withArcs(n int64, arcs ...impl.Arc) impl.Graph {
 	return impl.Graph{N: n, Arcs: arcs}
 }

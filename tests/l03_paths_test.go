@@ -82,7 +82,6 @@ func noneOnTheWay(g impl.Graph) [][2]int64 {
 }
 
 func TestDistancesAsWritten(t *testing.T) {
-	arc := func(from int64, to int64, w int64) impl.Arc { return impl.Arc{From: from, To: to, W: w} }
 	late := withArcs(4, arc(0, 1, 100), arc(0, 2, 1), arc(0, 3, 50), arc(2, 3, 1), arc(3, 1, 1))
 	for i, c := range []struct {
 		g    impl.Graph
@@ -175,7 +174,6 @@ func TestTurnedItIsAsFarByDistOf(t *testing.T) {
 }
 
 func TestPathsAsWritten(t *testing.T) {
-	arc := func(from int64, to int64, w int64) impl.Arc { return impl.Arc{From: from, To: to, W: w} }
 	tied := withArcs(5, arc(0, 1, 2), arc(0, 2, 1), arc(0, 3, 4), arc(1, 3, 2), arc(2, 1, 1), arc(2, 3, 3))
 	for i, c := range []struct {
 		g    impl.Graph

@@ -225,7 +225,6 @@ func TestFromBothSidesItIsAsFarAsFromOne(t *testing.T) {
 }
 
 func TestTwoSidedAsWritten(t *testing.T) {
-	arc := func(from int64, to int64, w int64) impl.Arc { return impl.Arc{From: from, To: to, W: w} }
 	// Both sides find node 1 ahead of the arc from 2 to 4, which is on the shorter way.
 	late := withArcs(5, arc(0, 1, 5), arc(0, 2, 3), arc(1, 3, 5), arc(2, 4, 3), arc(4, 3, 3))
 	for i, c := range []struct {

@@ -55,7 +55,6 @@ func somePairs(g impl.Graph) [][2]int64 {
 }
 
 func TestReachesAsWritten(t *testing.T) {
-	arc := func(from int64, to int64, w int64) impl.Arc { return impl.Arc{From: from, To: to, W: w} }
 	long := make([]int64, impl.MaxNodes)
 	for v := range long {
 		long[v] = impl.MaxW * int64(min(v, impl.MaxNodes-1-v))
@@ -219,7 +218,6 @@ func TestReachesOfWhatIsNoNode(t *testing.T) {
 }
 
 func TestPrunedAsWritten(t *testing.T) {
-	arc := func(from int64, to int64, w int64) impl.Arc { return impl.Arc{From: from, To: to, W: w} }
 	// From 0 to 4 by 1 and 2; node 3 is on a longer way, node 5 leads there, node 6 is led to.
 	g := withArcs(7, arc(0, 1, 2), arc(0, 3, 4), arc(1, 2, 3), arc(2, 4, 4), arc(2, 6, 1), arc(3, 4, 9), arc(5, 0, 1))
 	reach := []int64{1, 3, 4, 0, 0, 0, 0}

@@ -501,7 +501,6 @@ func TestQueryMarksOfWhatIsNoNode(t *testing.T) {
 }
 
 func TestFarthestAsWritten(t *testing.T) {
-	arc := func(from int64, to int64, w int64) impl.Arc { return impl.Arc{From: from, To: to, W: w} }
 	star := withArcs(5, arc(0, 1, 3), arc(0, 2, 9), arc(0, 3, 9), arc(0, 4, 8), arc(3, 0, 1))
 	for i, c := range []struct {
 		g     impl.Graph
